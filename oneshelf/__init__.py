@@ -1,0 +1,1 @@
+"""Oneshelf: a shelf kept on several houses."""
