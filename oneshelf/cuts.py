@@ -43,20 +43,22 @@ def pulled(places, event):
 def pulls(picture, places):
     """Pulls for the places, in the sequence of the events as far as this goes."""
     check_places(picture, places)
+    now = places
     found = []
-    event = picture.too_soon(places)
+    event = picture.too_soon(now)
     while event is not None:
         found.append(event)
-        places = pulled(places, event)
-        event = picture.too_soon(places)
+        now = pulled(now, event)
+        event = picture.too_soon(now)
     return found
 
 
 def greatest_cut(picture, places):
     """The greatest cut within the places."""
+    cut = places
     for event in pulls(picture, places):
-        places = pulled(places, event)
-    return places
+        cut = pulled(cut, event)
+    return cut
 
 
 def are_pulls(picture, places, value):
@@ -64,14 +66,15 @@ def are_pulls(picture, places, value):
     check_places(picture, places)
     if not is_list(value):
         return False
+    now = places
     for event in value:
-        if event not in picture or event[1] >= places[event[0]]:
+        if event not in picture or event[1] >= now[event[0]]:
             return False
         said = picture.sayer(event)
-        if said is None or said[1] < places[said[0]]:
+        if said is None or said[1] < now[said[0]]:
             return False
-        places = pulled(places, event)
-    return picture.has_cut(places)
+        now = pulled(now, event)
+    return picture.has_cut(now)
 
 
 def line_through(picture, cut):
@@ -128,10 +131,11 @@ def cuts_up_to(picture, limit):
     seen = {found[0]: True}
     at = 0
     while at < len(found) and len(found) <= limit:
-        for cut in next_cuts(picture, found[at], needs):
-            if cut not in seen:
-                seen[cut] = True
-                found.append(cut)
+        cut = found[at]
+        for later in next_cuts(picture, cut, needs):
+            if later not in seen:
+                seen[later] = True
+                found.append(later)
         at = at + 1
     return sorted(found)
 

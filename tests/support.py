@@ -127,12 +127,23 @@ def some_rows(seed, houses, events, texts="ab"):
 
 
 def small_pictures():
-    """Small pictures of one to four houses, of which all lines can be tried."""
+    """Small pictures of one to six houses, of which all lines can be tried."""
     found = [Picture([[]]), Picture([[], []]), Picture([[("do", "")], []])]
-    for seed in range(36):
-        houses = 1 + seed % 4
-        events = (3, 6, 7, 6)[houses - 1] - seed % 2
+    for seed in range(42):
+        houses = 1 + seed % 6
+        events = (3, 6, 7, 6, 5, 5)[houses - 1] - seed // 6 % 2
         found.append(Picture(some_rows(seed, houses, events)))
+    return found
+
+
+def talkative_pictures(many=30):
+    """Small pictures of two to four houses in which at least three letters are heard."""
+    found, seed = [], 1000
+    while len(found) < many:
+        seed += 1
+        rows = some_rows(seed, 2 + seed % 3, 8)
+        if sum(what[0] == "hear" for row in rows for what in row) >= 3:
+            found.append(Picture(rows))
     return found
 
 

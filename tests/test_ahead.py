@@ -6,7 +6,7 @@ from oneshelf.ahead import chain, clock, exchanges, is_ahead, is_chain, is_way, 
 from oneshelf.errors import InvalidEvent, InvalidLine, TooMany
 from oneshelf.pictures import Picture, least_line
 from support import (Case, ahead_pairs, all_events, full_picture, grid, is_event_of, is_int, is_listy, junk, line_fault,
-                     next_to, small_pictures, try_lines, variants, walk)
+                     next_to, small_pictures, talkative_pictures, try_lines, variants, walk)
 
 PICTURE = Picture([[("do", "a"), ("say", 5, 1, "x")], [("hear", 5), ("do", "b")], [("do", "c")]])
 
@@ -111,7 +111,7 @@ class TestAhead(Case):
 
 class TestChains(Case):
     def test_the_first_of_the_shortest(self):
-        for picture in small_pictures():
+        for picture in small_pictures() + talkative_pictures():
             rows = picture.rows()
             for first in picture.events():
                 for second in picture.events():
@@ -127,8 +127,14 @@ class TestChains(Case):
         rows[0].insert(1, ("do", ""))
         self.assertEqual(chain(Picture(rows), (0, 0), (1, 1)), [(0, 0), (2, 0), (2, 1), (1, 0), (1, 1)])
 
+    def test_of_two_shortest_ones_the_first(self):
+        rows = [[("hear", 0), ("say", 1, 1, "")], [("say", 0, 0, ""), ("do", ""), ("do", ""), ("hear", 1)]]
+        self.assertEqual(chain(Picture(rows), (1, 0), (1, 3)), [(1, 0), (0, 0), (0, 1), (1, 3)])
+        rows = [[("say", 0, 1, ""), ("do", ""), ("do", ""), ("hear", 1)], [("hear", 0), ("say", 1, 0, "")]]
+        self.assertEqual(chain(Picture(rows), (0, 0), (0, 3)), [(0, 0), (0, 1), (0, 2), (0, 3)])
+
     def test_what_is_a_chain(self):
-        for picture in small_pictures():
+        for picture in small_pictures() + talkative_pictures(8):
             rows = picture.rows()
             for first in picture.events()[::2]:
                 for second in picture.events():

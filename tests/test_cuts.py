@@ -7,7 +7,7 @@ from oneshelf.cuts import (all_cuts, are_pulls, greatest_cut, is_cut, least_cut,
 from oneshelf.errors import InvalidCut, InvalidEvent, InvalidLine, InvalidPlaces, TooMany
 from oneshelf.pictures import Picture, least_line
 from support import (Case, Dice, full_picture, grid, is_event_of, is_int, is_listy, junk, line_fault, said_by,
-                     small_pictures, try_cuts, try_lines, variants, walk)
+                     small_pictures, talkative_pictures, try_cuts, try_lines, variants, walk)
 
 PICTURE = Picture([[("do", "a"), ("say", 5, 1, "x")], [("hear", 5), ("do", "b")], [("do", "c")]])
 
@@ -137,7 +137,7 @@ class TestLeastCuts(Case):
 
 class TestGreatestCuts(Case):
     def test_by_trying_all(self):
-        for picture in small_pictures():
+        for picture in small_pictures() + talkative_pictures():
             rows = picture.rows()
             cuts = try_cuts(rows)
             for places in all_places(rows):
@@ -151,7 +151,7 @@ class TestGreatestCuts(Case):
                 self.assertIs(are_pulls(picture, places, tuple(steps)), True)
 
     def test_what_are_pulls(self):
-        for number, picture in enumerate(small_pictures()):
+        for number, picture in enumerate(small_pictures() + talkative_pictures(12)):
             rows, dice = picture.rows(), Dice(number)
             for places in all_places(rows)[::4]:
                 told = pulls(picture, places)
@@ -235,10 +235,10 @@ class TestLinesThrough(Case):
 
 class TestNoting(Case):
     def test_by_trying_all(self):
-        for picture in small_pictures():
+        for picture in small_pictures() + talkative_pictures():
             rows = picture.rows()
             lines = try_lines(rows)
-            for line in lines[::9] + lines[-1:]:
+            for line in lines[::19] + lines[-1:]:
                 for places in all_places(rows):
                     told = self.ask(noted, picture=picture, line=line, places=places)
                     self.assertEqual(told, try_noted(rows, line, places))

@@ -15,14 +15,39 @@ FUNCTIONS = {
     "cuts": {"is_cut": "picture value", "least_cut": "picture events", "greatest_cut": "picture places",
              "pulls": "picture places", "are_pulls": "picture places value", "line_through": "picture cut",
              "on_the_way": "picture cut", "noted": "picture line places", "all_cuts": "picture"},
+    "flags": {"perhaps": "picture flags", "crossings": "picture flags", "are_crossings": "picture flags value",
+              "surely": "picture flags", "stretches": "picture flags", "are_stretches": "picture flags value",
+              "line_past": "picture flags", "is_line_past": "picture flags value"},
+    "books": {"is_fact": "book value", "holds": "book fact point", "told_in_full": "picture"},
+    "knowing": {"knows": "book house fact point", "learnt": "book house fact number",
+                "knows_along": "book houses fact point", "path_against": "book houses fact point",
+                "layers": "book houses fact point", "is_path_against": "book houses fact point value",
+                "are_layers": "book houses fact point value", "relay": "book houses point event",
+                "is_relay": "book houses point event value"},
+    "common": {"is_common": "book group fact point", "closed_seats": "book group fact point",
+               "are_closed_seats": "book group fact point value", "way_out": "book group fact point",
+               "is_way_out": "book group fact point value", "depth": "book group fact point",
+               "linked": "book group number"},
+    "trees": {"is_tree": "value"},
+    "meetings": {"how_many": "tree", "standing": "tree", "meetings": "tree", "cuts": "tree",
+                 "is_meeting": "tree value", "is_cut": "tree value", "meeting_among": "tree houses",
+                 "cut_among": "tree houses", "own_share": "tree", "closest": "tree", "share": "one other",
+                 "apart": "one other", "cuts_within": "one other", "are_cuts_within": "one other value"},
 }
 CLASSES = {
     ("pictures", "Picture"): {
         "__init__": "rows", "rows": "", "events": "", "letters": "", "said": "letter", "heard": "letter",
         "beginning": "cut", "__len__": "", "__contains__": None, "__getitem__": None, "__eq__": None, "__repr__": ""},
+    ("books", "Book"): {
+        "__init__": "pictures starts watched", "starts": "", "watched": "number", "points": "", "row": "house point",
+        "alike": "house point", "__len__": "", "__contains__": None, "__eq__": None, "__repr__": ""},
+    ("trees", "Tree"): {
+        "__init__": "shape", "members": "", "stands": "houses", "__len__": "", "__contains__": None, "__invert__": "",
+        "__and__": None, "__or__": None, "__eq__": None, "__repr__": ""},
 }
-PROPERTIES = {("pictures", "Picture"): ["houses"]}
-DEFAULTS = {}
+PROPERTIES = {("pictures", "Picture"): ["houses"], ("books", "Book"): ["pictures", "houses"],
+              ("trees", "Tree"): ["shape", "is_plain"]}
+DEFAULTS = {("books", "Book"): {"starts": None, "watched": None}}
 
 
 def names_of(function):
@@ -50,6 +75,11 @@ class TestInterface(unittest.TestCase):
                     self.assertEqual(names_of(kind.__dict__[method])[1:], names.split(), method)
             for told in PROPERTIES[file, name]:
                 self.assertIsInstance(kind.__dict__[told], property)
+
+    def test_static_methods(self):
+        kind = importlib.import_module("oneshelf.trees").Tree
+        self.assertIsInstance(kind.__dict__["of"], staticmethod)
+        self.assertEqual(names_of(kind.of), ["number", "parts"])
 
     def test_defaults(self):
         for (file, name), wanted in DEFAULTS.items():

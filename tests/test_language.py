@@ -13,10 +13,11 @@ LIBRARY = {"heapq": {"heappush", "heappop", "heapify", "heapreplace", "heappushp
            "itertools": {"product", "combinations", "permutations", "chain", "accumulate", "pairwise", "islice",
                          "zip_longest"},
            "collections": {"defaultdict"}, "__future__": {"annotations"}}
-BUILTINS = set("""len range enumerate zip min max sum abs sorted reversed int str bool bytes list tuple dict set frozenset
-    isinstance ord repr any all divmod pow getattr hasattr setattr Exception ValueError TypeError KeyError IndexError
-    LookupError ZeroDivisionError ArithmeticError OverflowError RuntimeError NotImplementedError AttributeError
-    StopIteration NotImplemented print map iter next super property staticmethod classmethod object float""".split())
+BUILTINS = set("""len range enumerate zip min max sum abs sorted reversed int str bool bytes list tuple dict set
+    frozenset isinstance ord repr any all divmod pow getattr hasattr setattr Exception ValueError TypeError KeyError
+    IndexError LookupError ZeroDivisionError ArithmeticError OverflowError RuntimeError NotImplementedError
+    AttributeError StopIteration NotImplemented print map iter next super property staticmethod classmethod object
+    float""".split())
 BARRED = set("register mro elements open input law version_info with_traceback add_note".split())
 WORDS = ("type typing typing_extensions enum Enum IntEnum StrEnum Flag IntFlag Generic Protocol ABC ABCMeta namedtuple "
          "NamedTuple TypedDict TYPE_CHECKING abstractmethod").split()
@@ -153,9 +154,9 @@ class TestLanguage(unittest.TestCase):
         for path, tree in trees():
             for node in ast.walk(tree):
                 if isinstance(node, ast.Compare) and any(isinstance(op, (ast.Is, ast.IsNot)) for op in node.ops):
-                    sides = [node.left] + node.comparators
-                    self.assertTrue(any(isinstance(side, ast.Constant) or isinstance(side, ast.Name) and
-                                        side.id == "self" for side in sides), (path, node.lineno))
+                    for side in [node.left] + node.comparators:
+                        if isinstance(side, ast.Constant):
+                            self.assertIn(repr(side.value), ("None", "True", "False"), (path, node.lineno))
 
 
 if __name__ == "__main__":
