@@ -250,24 +250,24 @@ def done_so_far(row, text):
     return found
 
 
-def where_done(book, house, text, least):
-    """The dict from all points to whether a house has done a text so often there."""
-    counts = [done_so_far(picture.rows()[house], text) for picture in book.pictures]
-    return {(number, cut): counts[number][cut[house]] >= least for number, cut in book.points()}
+def where_done(book, fact, points):
+    """The dict from these points to whether a house has done a text so often there."""
+    house = fact[1]
+    counts = [done_so_far(picture.rows()[house], fact[2]) for picture in book.pictures]
+    return {(number, cut): counts[number][cut[house]] >= fact[3] for number, cut in points}
 
 
-def where(book, fact):
-    """The dict from all points to whether a fact of the book holds there."""
-    points = book.points()
+def where(book, fact, points):
+    """The dict from these points to whether a fact of the book holds there."""
     if fact[0] == "done":
-        return where_done(book, fact[1], fact[2], fact[3])
+        return where_done(book, fact, points)
     if fact[0] == "start":
         starts = book.starts()
         return {point: starts[point[0]][fact[1]] == fact[2] for point in points}
     if fact[0] == "at":
         told = {point: True for point in fact[1]}
         return {point: point in told for point in points}
-    parts = [where(book, part) for part in parts_of(fact)]
+    parts = [where(book, part, points) for part in parts_of(fact)]
     if fact[0] == "all":
         return {point: all([part[point] for part in parts]) for point in points}
     if fact[0] == "any":
@@ -275,11 +275,17 @@ def where(book, fact):
     return {point: not parts[0][point] for point in points}
 
 
+def fails_at(book, fact, points):
+    """Those of these points at which a fact of the book does not hold."""
+    truth = where(book, fact, points)
+    return [point for point in points if not truth[point]]
+
+
 def holds(book, fact, point):
     """Whether a fact holds at a point."""
     check_fact(book, fact)
     check_point(book, point)
-    return where(book, fact)[point]
+    return len(fails_at(book, fact, [point])) == 0
 
 
 def with_plain_letters(picture):

@@ -1,7 +1,7 @@
 """What is common to a group of houses at a point of a book."""
 
 from oneshelf.basics import is_list, is_number_below
-from oneshelf.books import check_fact, check_number, check_point, where
+from oneshelf.books import check_fact, check_number, check_point, fails_at
 from oneshelf.errors import InvalidGroup
 
 
@@ -45,8 +45,7 @@ def search(book, group, point):
 def is_common(book, group, fact, point):
     """Whether the fact is common to the group at the point."""
     check_question(book, group, fact, point)
-    truth = where(book, fact)
-    return all([truth[other] for other in search(book, group, point)])
+    return len(fails_at(book, fact, list(search(book, group, point)))) == 0
 
 
 def closed_seats(book, group, fact, point):
@@ -79,8 +78,7 @@ def are_closed_seats(book, group, fact, point, value):
     for house, row in value:
         for other in book.points_with(house, row):
             points[other] = True
-    truth = where(book, fact)
-    if not all([truth[other] for other in points]):
+    if len(fails_at(book, fact, list(points))) > 0:
         return False
     return all([(house, book.row_at(house, other)) in seats for other in points for house in group])
 
@@ -88,12 +86,11 @@ def are_closed_seats(book, group, fact, point, value):
 def way_out(book, group, fact, point):
     """A way out of the fewest steps; None if the fact is common."""
     check_question(book, group, fact, point)
-    truth = where(book, fact)
     came = search(book, group, point)
-    false = [other for other in came if not truth[other]]
-    if len(false) == 0:
+    failing = fails_at(book, fact, list(came))
+    if len(failing) == 0:
         return None
-    path = [false[0]]
+    path = [failing[0]]
     while came[path[-1]] is not None:
         path.append(came[path[-1]])
     return path[::-1]
@@ -109,7 +106,7 @@ def is_way_out(book, group, fact, point, value):
     for former, later in zip(value[:-1], value[1:]):
         if not any([book.row_at(house, former) == book.row_at(house, later) for house in group]):
             return False
-    return not where(book, fact)[value[-1]]
+    return len(fails_at(book, fact, value[-1:])) == 1
 
 
 def depth(book, group, fact, point):

@@ -2,7 +2,7 @@
 
 from oneshelf.ahead import stands_ahead
 from oneshelf.basics import is_list, is_number_below
-from oneshelf.books import check_fact, check_house, check_number, check_point, where
+from oneshelf.books import check_fact, check_house, check_number, check_point, fails_at
 from oneshelf.errors import InvalidAlong, InvalidEvent
 
 MOST_ALONG = 10
@@ -23,9 +23,9 @@ def check_seen(book, point, value):
         raise InvalidEvent(value)
 
 
-def knows_by(book, house, truth, point):
-    """Whether what is true holds at all points that are alike to the house."""
-    return all([truth[other] for other in book.points_with(house, book.row_at(house, point))])
+def knows_at(book, house, fact, point):
+    """Whether a fact of the book holds at all points that are alike to the house."""
+    return len(fails_at(book, fact, book.points_with(house, book.row_at(house, point)))) == 0
 
 
 def knows(book, house, fact, point):
@@ -33,7 +33,7 @@ def knows(book, house, fact, point):
     check_house(book, house)
     check_fact(book, fact)
     check_point(book, point)
-    return knows_by(book, house, where(book, fact), point)
+    return knows_at(book, house, fact, point)
 
 
 def learnt(book, house, fact, number):
@@ -41,12 +41,11 @@ def learnt(book, house, fact, number):
     check_house(book, house)
     check_fact(book, fact)
     check_number(book, number)
-    truth = where(book, fact)
     first = {}
     for cut in book.watched(number):
         first.setdefault(cut[house], (number, cut))
     for count in sorted(list(first)):
-        if knows_by(book, house, truth, first[count]):
+        if knows_at(book, house, fact, first[count]):
             return count
     return None
 
@@ -66,9 +65,9 @@ def rows_along(book, houses, point):
     return found
 
 
-def ends_true(truth, rows):
-    """Whether what is true holds at all points of these rows."""
-    return all([truth[point] for row in rows for point in rows[row]])
+def fails_behind(book, fact, rows):
+    """The points at which houses have the last of these rows and a fact of the book does not hold."""
+    return fails_at(book, fact, [point for row in rows[-1] for point in rows[-1][row]])
 
 
 def check_question(book, houses, fact, point):
@@ -81,7 +80,7 @@ def check_question(book, houses, fact, point):
 def knows_along(book, houses, fact, point):
     """Whether the list of houses knows the fact along at the point."""
     check_question(book, houses, fact, point)
-    return ends_true(where(book, fact), rows_along(book, houses, point)[-1])
+    return len(fails_behind(book, fact, rows_along(book, houses, point))) == 0
 
 
 def path_back(book, houses, rows, last):
@@ -98,20 +97,18 @@ def path_back(book, houses, rows, last):
 def path_against(book, houses, fact, point):
     """A path against what the houses would know along; None if they know it."""
     check_question(book, houses, fact, point)
-    truth = where(book, fact)
     rows = rows_along(book, houses, point)
-    for row in rows[-1]:
-        for last in rows[-1][row]:
-            if not truth[last]:
-                return [point] + path_back(book, houses, rows, last)
-    return None
+    failing = fails_behind(book, fact, rows)
+    if len(failing) == 0:
+        return None
+    return [point] + path_back(book, houses, rows, failing[0])
 
 
 def layers(book, houses, fact, point):
     """The least layers, each sorted; None if there are none."""
     check_question(book, houses, fact, point)
     rows = rows_along(book, houses, point)
-    if not ends_true(where(book, fact), rows[-1]):
+    if len(fails_behind(book, fact, rows)) > 0:
         return None
     return [sorted(list(layer)) for layer in rows]
 
@@ -126,7 +123,7 @@ def is_path_against(book, houses, fact, point, value):
     for house, former, later in zip(houses, value[:-1], value[1:]):
         if book.row_at(house, former) != book.row_at(house, later):
             return False
-    return not where(book, fact)[value[-1]]
+    return len(fails_at(book, fact, value[-1:])) == 1
 
 
 def layer_points(book, house, value):
@@ -151,8 +148,7 @@ def are_layers(book, houses, fact, point, value):
         if not all([book.row_at(house, other) in rows for other in points]):
             return False
         points = reached
-    truth = where(book, fact)
-    return all([truth[other] for other in points])
+    return len(fails_at(book, fact, points)) == 0
 
 
 def is_behind(picture, event, later):

@@ -1,6 +1,6 @@
 """The meetings and cuts of trees: how many, which, and how far two of them can keep apart."""
 
-from oneshelf.basics import is_count, is_integer, is_list
+from oneshelf.basics import is_count, is_integer
 from oneshelf.errors import TooMany
 from oneshelf.trees import are_houses, stands_in
 

@@ -30,17 +30,19 @@ class Case(unittest.TestCase):
 
     def ask(self, function, **named):
         """What a call returns, which is the same by position, by name, and with changed arguments brought back."""
-        kept = list(named.values())
-        first = function(*kept)
+        passed = repr(named)
+        first = function(*list(named.values()))
         told = copy.deepcopy(first)
         spoil(first)
         second = function(**named)
         self.assertEqual(repr(told), repr(second))
         self.assertEqual(told, second)
+        self.assertEqual(repr(named), passed)
         return second
 
     def refuse(self, wanted, told, function, **named):
-        """That a call is refused by an error of this class that keeps what is told: (name of attribute, value)."""
+        """That a call is refused by an error of this class, with what it keeps: a dict from attributes to values."""
+        passed = repr(named)
         for keywords in (False, True):
             with self.assertRaises(wanted) as caught:
                 if keywords:
@@ -52,13 +54,16 @@ class Case(unittest.TestCase):
                 kept = getattr(caught.exception, name)
                 self.assertIs(type(kept), type(value))
                 self.assertEqual(kept, value)
+        self.assertEqual(repr(named), passed)
 
     def yes_or_no(self, function, **named):
         """What a question says, which is a bool, by position and by name."""
+        passed = repr(named)
         first = function(*list(named.values()))
         second = function(**named)
         self.assertIs(type(first), bool)
         self.assertIs(first, second)
+        self.assertEqual(repr(named), passed)
         return first
 
     def never(self, function, values, **named):
@@ -66,11 +71,6 @@ class Case(unittest.TestCase):
         for value in values:
             self.assertIs(function(*list(named.values()), value), False, value)
             self.assertIs(function(**named, value=value), False, value)
-
-    def bools(self, function, **named):
-        """That a question, of a last argument `value`, returns a bool for values of all kinds."""
-        for value in junk():
-            self.assertIs(type(function(*list(named.values()), value)), bool, value)
 
 
 def spoil(value):

@@ -90,6 +90,7 @@ class TestCommon(Case):
         seats, way = self.ask(closed_seats, **asked), self.ask(way_out, **asked)
         self.assertIs(seats is None, not told)
         self.assertIs(way is None, told)
+        self.assertIs(are_closed_seats(*asked.values(), least_seats(tried, group, point)), told)
         if told:
             self.assertEqual(seats, least_seats(tried, group, point))
             self.assertIs(judge_seats(tried, group, fact, point, seats), True)

@@ -4,11 +4,13 @@ import itertools
 import unittest
 
 from oneshelf.books import Book
+from oneshelf.cuts import least_cut
 from oneshelf.errors import InvalidAlong, InvalidEvent, InvalidFact, InvalidHouse, InvalidNumber, InvalidPoint
 from oneshelf.knowing import (are_layers, is_path_against, is_relay, knows, knows_along, layers, learnt, path_against,
                               relay)
 from oneshelf.pictures import Picture
-from support import Case, Dice, ahead_pairs, grid, is_event_of, is_int, is_listy, junk, some_rows, variants
+from support import (Case, Dice, ahead_pairs, full_picture, grid, is_event_of, is_int, is_listy, junk, some_rows,
+                     variants)
 from tried import Tried, small_books
 
 WROTE = [[("do", "w"), ("say", 0, 1, "x")], [("hear", 0)]]
@@ -235,6 +237,17 @@ class TestAlong(Case):
             for function in ALONG:
                 self.refuse(InvalidAlong, {"position": None}, function, book=tried.book, houses=houses, fact=fact,
                             point=LAST)
+
+    def test_120_events(self):
+        rows = full_picture().rows()
+        whole = tuple(len(row) for row in rows)
+        cuts = [least_cut(full_picture(), [event]) for event in full_picture().events()[::7]] + [(0,) * 6, whole]
+        tried = Tried([rows, [[]] * 6], None, [sorted(set(cuts)), None])
+        fact = ("not", ("at", [(1, (0,) * 6)]))
+        for houses in ([0], [5, 4, 3, 2, 1, 0], [2] * 10):
+            known = tried.where_along(houses, tried.where(fact))
+            for point in tried.points:
+                self.assertIs(knows_along(tried.book, houses, fact, point), point in known)
 
     def test_at_the_limits(self):
         rows = [[("do", "a")] * 19, [("do", "b")] * 19]

@@ -103,6 +103,7 @@ class TestMeetings(Case):
         two_hundred = Tree.of(3, *[Tree(("of", 1, list(range(first, first + size))))
                                    for first, size in ((0, 5), (5, 5), (10, 8))])
         self.assertEqual(len(meetings(two_hundred)), 200)
+        self.assertEqual(cuts(~two_hundred), meetings(two_hundred))
         more = Tree.of(2, Tree(("of", 1, list(range(3)))), Tree(("of", 2, list(range(3, 15)))), Tree(20))
         self.assertEqual(how_many(more), 3 * 66 + 3 + 66)
         for tree, count in ((majority(2, 21), 210), (majority(12, 24), math.comb(24, 12)), (more, 267),
