@@ -33,6 +33,38 @@ FUNCTIONS = {
                  "is_meeting": "tree value", "is_cut": "tree value", "meeting_among": "tree houses",
                  "cut_among": "tree houses", "own_share": "tree", "closest": "tree", "share": "one other",
                  "apart": "one other", "cuts_within": "one other", "are_cuts_within": "one other value"},
+    "loads": {"load": "tree", "chances": "tree", "weights": "tree", "asked": "tree value",
+              "is_chances": "tree limit value", "is_weights": "tree limit value"},
+    "votes": {"votes": "tree", "trade": "tree", "is_votes": "tree value", "is_trade": "tree value"},
+    "joins": {"is_melt": "table value", "result": "table melt", "melts": "table", "parting": "table",
+              "is_parting": "table value", "soaked": "table picture begins gifts cut",
+              "heard": "table picture begins gifts cut"},
+    "pieces": {"join": "table values", "pieces": "table", "needed": "table value", "is_free": "table value listed",
+               "free_lists": "table value", "is_clear": "table", "is_prime": "table piece", "missing": "table v u",
+               "does_send": "table v u listed", "fewest": "table v u", "lapse": "table", "is_lapse": "table value",
+               "read_of": "table thresholds shower", "are_firm": "table thresholds",
+               "unlike_showers": "table thresholds", "are_unlike_showers": "table thresholds value"},
+    "kinds": {"led": "kind state calls", "telling": "kind one other"},
+    "endings": {"line_end": "kind picture state line", "ends": "kind picture state",
+                "do_end_alike": "kind picture state", "do_answer_alike": "kind picture state",
+                "unlike_ends": "kind picture state", "unlike_answers": "kind picture state",
+                "are_unlike_ends": "kind picture state value", "are_unlike_answers": "kind picture state value",
+                "is_exchanging": "kind picture state", "not_exchanging": "kind picture state"},
+    "histories": {"answers": "history things numbers"},
+    "zones": {"counting": "history firsts", "zones": "history firsts", "barring": "history firsts",
+              "is_plain_explained": "history firsts", "plain_order": "history firsts",
+              "plain_refusal": "history firsts", "is_plain_refusal": "history firsts value"},
+    "refusals": {"is_explained": "history things", "explains": "history things value", "order": "history things",
+                 "refusal": "history things", "is_refusal": "history things value",
+                 "first_refused": "history things", "can_answer": "history things hand"},
+    "ownorder": {"explains_own": "history things value", "own_order": "history things",
+                 "own_refusal": "history things", "is_own_refusal": "history things value",
+                 "links": "history firsts writes", "told_order": "history firsts writes",
+                 "ring": "history firsts writes", "is_ring": "history firsts writes value"},
+    "rules": {"is_right": "rule losing", "right_paper": "rule losing", "is_right_paper": "rule value losing",
+              "is_regular": "rule"},
+    "shelves": {"is_run": "rule value", "can_be_done": "rule run value", "holding": "rule run",
+                "under_way": "rule run", "calls": "rule run", "history": "rule run", "losers": "rule run"},
 }
 CLASSES = {
     ("pictures", "Picture"): {
@@ -44,10 +76,23 @@ CLASSES = {
     ("trees", "Tree"): {
         "__init__": "shape", "members": "", "stands": "houses", "__len__": "", "__contains__": None, "__invert__": "",
         "__and__": None, "__or__": None, "__eq__": None, "__repr__": ""},
+    ("joins", "Table"): {
+        "__init__": "rows", "rows": "", "at": "x y", "__len__": "", "__eq__": None, "__repr__": ""},
+    ("kinds", "Kind"): {
+        "__init__": "calls", "calls": "", "after": "state call", "__eq__": None, "__repr__": ""},
+    ("histories", "History"): {
+        "__init__": "entries", "entries": "", "calls": "", "hands": "", "names": "", "beginning": "many",
+        "about": "names", "only": "numbers", "__len__": "", "__add__": None, "__eq__": None, "__repr__": ""},
+    ("rules", "Rule"): {
+        "__init__": "houses reading writing writers back", "reading_meetings": "", "writing_meetings": "",
+        "written": "", "__eq__": None, "__repr__": ""},
 }
 PROPERTIES = {("pictures", "Picture"): ["houses"], ("books", "Book"): ["pictures", "houses"],
-              ("trees", "Tree"): ["shape", "is_plain"]}
-DEFAULTS = {("books", "Book"): {"starts": None, "watched": None}}
+              ("trees", "Tree"): ["shape", "is_plain"], ("joins", "Table"): [], ("kinds", "Kind"): ["states"],
+              ("histories", "History"): [], ("rules", "Rule"): ["houses", "reading", "writing", "writers", "back"]}
+DEFAULTS = {("books", "Book"): {"starts": None, "watched": None},
+            ("rules", "Rule"): {"writers": "one", "back": "always"}, ("rules", "is_right"): {"losing": 0},
+            ("rules", "right_paper"): {"losing": 0}, ("rules", "is_right_paper"): {"losing": 0}}
 
 
 def names_of(function):
