@@ -203,7 +203,7 @@ def check_thresholds(table, thresholds):
             raise InvalidValues(position)
 
 
-def reading(table, thresholds, shower):
+def first_read(table, thresholds, shower):
     """What a shower reads: the thresholds within the first state that has any; None without one."""
     state = shower[0]
     for part in shower:
@@ -219,7 +219,7 @@ def read_of(table, thresholds, shower):
     check_melting(table)
     check_thresholds(table, thresholds)
     check_values(table, shower, 1)
-    return reading(table, thresholds, shower)
+    return first_read(table, thresholds, shower)
 
 
 def two_below(table, thresholds):
@@ -263,4 +263,4 @@ def are_unlike_showers(table, thresholds, value):
         return False
     if sorted(set(value[0])) != sorted(set(value[1])) or joined(table, value[0]) == clash(table):
         return False
-    return reading(table, thresholds, value[0]) != reading(table, thresholds, value[1])
+    return first_read(table, thresholds, value[0]) != first_read(table, thresholds, value[1])

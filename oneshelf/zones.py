@@ -82,10 +82,8 @@ def zone(history, firsts, value, numbers):
     begin = max([-1] + [calls[number][3] for number in numbers])
     if firsts[value[0]] == value[1]:
         return (-1, begin)
-    ends = ends_of(calls, numbers)
-    if len(ends) == 0:
-        return (len(history.entries()), begin)
-    return (ends[0][0], begin)
+    ends = [end for end, _ in ends_of(calls, numbers)]
+    return (min(ends + [len(history.entries())]), begin)
 
 
 def zones_by_value(history, firsts):
