@@ -155,6 +155,14 @@ class Play:
         del self._halves[hand]
         self._entries.append(("answer", hand, value if call[1] == "read" else ""))
 
+    def half_of(self, hand):
+        """The half under way of a hand with a call under way."""
+        return self._halves[hand]
+
+    def is_under_way(self, hand):
+        """Whether a hand has a call under way."""
+        return hand in self._halves
+
     def held(self):
         """What the houses hold."""
         return list(self._held)
