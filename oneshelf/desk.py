@@ -163,7 +163,7 @@ class Desk:
         return told_list(remaining(picture, kept_by(picture, len(notes), notes), told[1]))
 
     def answer_tag(self, word, text):
-        """The answer whether all houses perhaps, or surely, hold a tag that is at least that of the write of a value."""
+        """The answer whether all houses perhaps, or surely, hold a tag that is at least that of a written value."""
         run = self.run()
         tags = [call[3] for call in calls(self._rule, run) if call[1] == "write" and call[2] == text]
         if len(tags) == 0:

@@ -5,7 +5,7 @@ from oneshelf.errors import InvalidKept, InvalidSpots
 
 
 def are_rising(value, size):
-    """Whether any value is a rising list of states of a house with so many events, the first and the last among them."""
+    """Whether any value is a rising list of states of a house with so many events, with the first and the last one."""
     if not is_list(value) or len(value) == 0 or not all([is_count(state) for state in value]):
         return False
     if value[0] != 0 or value[-1] != size:

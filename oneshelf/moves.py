@@ -101,7 +101,7 @@ def meetings_left(meetings, went, barred):
 
 
 def can_end(rule, run, told, barred):
-    """Whether a call under way, told as (hand, half, houses), can end by its own steps alone, to none of some houses."""
+    """Whether a call under way, told as (hand, half, houses), can end by its own steps, to none of some houses."""
     hand, half, went = told
     writing = meetings_left(rule.writing_meetings(), [], barred)
     meetings = rule.reading_meetings() if half == "ask" else rule.writing_meetings()

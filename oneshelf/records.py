@@ -17,7 +17,7 @@ def check_chosen(council, run, ballot):
 
 
 def later_ones(council, run, ballot):
-    """The tuples (later, houses, taken) of the greater ballots that have told: the houses that will do, perhaps none."""
+    """The tuples (later, houses, taken) of the greater ballots that have told, with all houses that will do."""
     found = ballots(council, run)
     told = found[ballot][3]
     later = []
