@@ -110,11 +110,22 @@ def is_true(claim):
     return checked_truth(claim)
 
 
+def copied(value):
+    """The value with new lists and dicts, the keys of these sorted."""
+    if isinstance(value, list):
+        return [copied(part) for part in value]
+    if isinstance(value, tuple):
+        return tuple([copied(part) for part in value])
+    if isinstance(value, dict):
+        return {key: copied(value[key]) for key in sorted(list(value))}
+    return value
+
+
 def contrary(claim):
     """The contrary claim."""
     checked_truth(claim)
     one, other = line_of(claim)
-    return (other if claim[0] == one else one,) + claim[1:]
+    return copied((other if claim[0] == one else one,) + claim[1:])
 
 
 def paper_of(claim):

@@ -65,6 +65,38 @@ FUNCTIONS = {
               "is_regular": "rule"},
     "shelves": {"is_run": "rule value", "can_be_done": "rule run value", "holding": "rule run",
                 "under_way": "rule run", "calls": "rule run", "history": "rule run", "losers": "rule run"},
+    "tagged": {"tag_order": "rule run", "is_explained_run": "rule run", "missed": "rule run",
+               "is_regular_run": "rule run"},
+    "wrongruns": {"wrong_run": "rule losing", "is_wrong_run": "rule value losing", "late_run": "rule number",
+                  "is_late_run": "rule number value"},
+    "ballots": {"is_council_run": "council value", "can_be_done": "council run value", "house_states": "council run",
+                "ballots": "council run", "chosen": "council run", "is_safe": "council", "two_values": "council",
+                "is_two": "council value"},
+    "records": {"record": "council run ballot", "is_record": "council run ballot value", "can_choose": "council up",
+                "finish": "council run up own", "is_finish": "council run up value", "bar": "council up",
+                "is_bar": "council up value"},
+    "fast": {"is_sure": "fast", "doubt": "fast", "is_doubt": "fast value", "may_be_chosen": "fast asked replies",
+             "picked": "fast asked replies own"},
+    "slots": {"chosen_calls": "council runs", "prefix": "known", "holes": "known", "joined": "one other",
+              "led_by": "kind state known", "led_once": "kind state named"},
+    "kept": {"is_kept": "picture value", "ends": "picture", "least_kept_cut": "picture kept spots",
+             "greatest_kept_cut": "picture kept spots", "useless": "picture kept"},
+    "zigzags": {"zigzag": "picture kept one other", "is_zigzag": "picture kept one other value",
+                "straight": "picture kept one other", "is_straight": "picture kept one other value",
+                "barrier": "picture kept spots", "is_barrier": "picture kept spots value", "is_tracked": "picture kept",
+                "untracked": "picture kept", "out_of_order": "picture kept"},
+    "back": {"left_states": "picture kept fallen house written", "remaining": "picture kept fallen written",
+             "undone": "picture kept fallen written", "undoings": "picture kept fallen event written",
+             "is_undoings": "picture kept fallen event value written", "worst": "picture kept many written",
+             "further": "picture kept fallen written", "to_write": "picture kept", "are_enough": "picture kept written",
+             "first_loss": "picture kept written"},
+    "texts": {"written": "thing", "read": "text"},
+    "claims": {"is_claim": "value", "is_true": "claim", "contrary": "claim", "paper_of": "claim",
+               "is_paper": "claim value"},
+    "log": {"are_alike": "rule one other", "exchanges_between": "rule one other",
+            "are_exchanges_between": "rule one other value", "difference": "rule one other",
+            "is_difference": "rule one other value", "least_alike": "rule run"},
+    "desk": {"picture_of": "rule run", "tried": "desk commands", "again": "rule log"},
 }
 CLASSES = {
     ("pictures", "Picture"): {
@@ -86,13 +118,30 @@ CLASSES = {
     ("rules", "Rule"): {
         "__init__": "houses reading writing writers back", "reading_meetings": "", "writing_meetings": "",
         "written": "", "__eq__": None, "__repr__": ""},
+    ("ballots", "Council"): {"__init__": "promise accept", "members": "", "__eq__": None, "__repr__": ""},
+    ("fast", "Fast"): {"__init__": "promise first", "members": "", "__eq__": None, "__repr__": ""},
+    ("log", "Log"): {
+        "__init__": "changes", "lines": "", "text": "", "__add__": None, "__len__": "", "__contains__": None,
+        "__eq__": None, "__repr__": ""},
+    ("desk", "Desk"): {
+        "__init__": "rule", "run": "", "log": "", "do": "command", "__call__": "command", "__iadd__": None,
+        "__getitem__": None, "__setitem__": None, "__len__": "", "do_all": "commands", "copy": "", "__eq__": None},
+    ("desk", "Trial"): {"__init__": "desk", "__enter__": "", "__exit__": None},
 }
 PROPERTIES = {("pictures", "Picture"): ["houses"], ("books", "Book"): ["pictures", "houses"],
               ("trees", "Tree"): ["shape", "is_plain"], ("joins", "Table"): [], ("kinds", "Kind"): ["states"],
-              ("histories", "History"): [], ("rules", "Rule"): ["houses", "reading", "writing", "writers", "back"]}
+              ("histories", "History"): [], ("rules", "Rule"): ["houses", "reading", "writing", "writers", "back"],
+              ("ballots", "Council"): ["promise", "accept"], ("fast", "Fast"): ["promise", "first"], ("log", "Log"): [],
+              ("desk", "Desk"): ["rule", "changes"], ("desk", "Trial"): []}
 DEFAULTS = {("books", "Book"): {"starts": None, "watched": None},
             ("rules", "Rule"): {"writers": "one", "back": "always"}, ("rules", "is_right"): {"losing": 0},
-            ("rules", "right_paper"): {"losing": 0}, ("rules", "is_right_paper"): {"losing": 0}}
+            ("rules", "right_paper"): {"losing": 0}, ("rules", "is_right_paper"): {"losing": 0},
+            ("wrongruns", "wrong_run"): {"losing": 0}, ("wrongruns", "is_wrong_run"): {"losing": 0},
+            ("kept", "least_kept_cut"): {"spots": ()}, ("kept", "greatest_kept_cut"): {"spots": ()},
+            ("log", "Log"): {"changes": ()}}
+DEFAULTS.update({("back", name): {"written": ()} for name in ("left_states", "remaining", "undone", "undoings",
+                                                              "is_undoings", "worst", "further")})
+REQUIRED = {("back", "are_enough"), ("back", "first_loss"), ("zigzags", "barrier"), ("desk", "picture_of")}
 
 
 def names_of(function):
@@ -122,15 +171,26 @@ class TestInterface(unittest.TestCase):
                 self.assertIsInstance(kind.__dict__[told], property)
 
     def test_static_methods(self):
-        kind = importlib.import_module("oneshelf.trees").Tree
-        self.assertIsInstance(kind.__dict__["of"], staticmethod)
-        self.assertEqual(names_of(kind.of), ["number", "parts"])
+        for file, name, method, names in (("trees", "Tree", "of", ["number", "parts"]), ("log", "Log", "of_text", ["text"]),
+                                          ("log", "Log", "torn", ["text"])):
+            kind = getattr(importlib.import_module("oneshelf." + file), name)
+            self.assertIsInstance(kind.__dict__[method], staticmethod)
+            self.assertEqual(names_of(getattr(kind, method)), names)
+
+    def test_what_is_read_off_files_and_classes(self):
+        self.assertEqual(importlib.import_module("oneshelf.histories").History.MOST_ENTRIES, 240)
+        self.assertIsInstance(importlib.import_module("oneshelf.claims").WORDS, list)
+        for function in (importlib.import_module("oneshelf.desk").tried, importlib.import_module("oneshelf.desk").Desk.do_all):
+            self.assertEqual(list(inspect.signature(function).parameters.values())[1].kind, inspect.Parameter.VAR_POSITIONAL)
 
     def test_defaults(self):
         for (file, name), wanted in DEFAULTS.items():
             kind = getattr(importlib.import_module("oneshelf." + file), name)
             told = inspect.signature(kind).parameters
             self.assertEqual({key: told[key].default for key in wanted}, wanted)
+        for file, name in REQUIRED:
+            told = inspect.signature(getattr(importlib.import_module("oneshelf." + file), name)).parameters
+            self.assertEqual({parameter.default for parameter in told.values()}, {inspect.Parameter.empty})
 
 
 if __name__ == "__main__":
