@@ -1,5 +1,6 @@
 """The examples of the README, and those of the document where it lies beside, answer as told."""
 
+import builtins
 import doctest
 import pathlib
 import re
@@ -15,6 +16,10 @@ def blocks_of(path, fence):
 
 
 class TestExamples(unittest.TestCase):
+    def tearDown(self):
+        # What was shown last is kept there, which other tests would take for a builtin.
+        vars(builtins).pop("_", None)
+
     def check(self, blocks):
         """That all blocks answer as told; names stand for what they were in the block ahead."""
         names = {}
