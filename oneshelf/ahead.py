@@ -99,17 +99,23 @@ def exchanges(picture, line):
     return [k for k in range(len(events) - 1) if can_exchange(picture, events[k], events[k + 1])]
 
 
+def positions_between(one, other):
+    """The fewest positions of exchanges that lead from one list to another one of the same unlike elements."""
+    now = list(one)
+    found = []
+    for goal, element in enumerate(other):
+        at = now.index(element)
+        found.extend(list(range(at - 1, goal - 1, -1)))
+        now.pop(at)
+        now.insert(goal, element)
+    return found
+
+
 def way(picture, one, other):
     """The fewest positions of exchanges that lead from one line to the other one."""
     check_line(picture, one)
     check_line(picture, other)
-    now = events_along(picture.houses, one)
-    found = []
-    for goal, event in enumerate(events_along(picture.houses, other)):
-        at = now.index(event)
-        found.extend(list(range(at - 1, goal - 1, -1)))
-        now.pop(at)
-        now.insert(goal, event)
+    found = positions_between(events_along(picture.houses, one), events_along(picture.houses, other))
     if len(found) > MOST_POSITIONS:
         raise TooMany("positions", MOST_POSITIONS)
     return found

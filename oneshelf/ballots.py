@@ -2,7 +2,7 @@
 
 from oneshelf.basics import is_count, is_list, is_text
 from oneshelf.errors import InvalidRun
-from oneshelf.meetings import apart, are_counts, check_meetings, meetings
+from oneshelf.meetings import apart, are_counts, meetings
 
 MOST_STEPS = 400
 
@@ -16,8 +16,6 @@ class Council:
     """A tree for promises and one for accepting."""
 
     def __init__(self, promise, accept):
-        check_meetings(promise)
-        check_meetings(accept)
         self._promise = promise
         self._accept = accept
         self._asked = tuples_of(promise)

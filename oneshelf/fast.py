@@ -4,15 +4,13 @@ from oneshelf.ballots import tuples_of
 from oneshelf.basics import is_count, is_list, is_text
 from oneshelf.errors import InvalidAsked, InvalidOwn, InvalidReplies
 from oneshelf.failures import InDoubt
-from oneshelf.meetings import are_counts, check_meetings
+from oneshelf.meetings import are_counts
 
 
 class Fast:
     """A tree for promises and one for first accepting."""
 
     def __init__(self, promise, first):
-        check_meetings(promise)
-        check_meetings(first)
         self._promise = promise
         self._first = first
         self._asked = tuples_of(promise)

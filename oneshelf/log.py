@@ -1,5 +1,6 @@
 """Logs of changes, and runs that are alike but for exchanges of steps that do not touch."""
 
+from oneshelf.ahead import positions_between
 from oneshelf.basics import is_count, is_list, is_number_below
 from oneshelf.errors import InvalidChange, InvalidChanges, InvalidText, TooMany
 from oneshelf.shelves import calls
@@ -158,13 +159,7 @@ def exchanges_between(rule, one, other):
     """The list of the fewest positions of exchanges that lead from the one run to the other one; None."""
     if checked_difference(rule, one, other) is not None:
         return None
-    now = list(numbered_steps(one))
-    found = []
-    for goal, told in enumerate(numbered_steps(other)):
-        at = now.index(told)
-        found.extend(list(range(at - 1, goal - 1, -1)))
-        now.pop(at)
-        now.insert(goal, told)
+    found = positions_between(list(numbered_steps(one)), list(numbered_steps(other)))
     if len(found) > MOST_EXCHANGES:
         raise TooMany("exchanges", MOST_EXCHANGES)
     return found

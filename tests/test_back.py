@@ -87,10 +87,22 @@ class TestBack(Case):
                 row = undoings(picture, kept, fallen, event, written) or []
                 more = [row + [(house, state, None)] for house in fallen for state in kept[house]]
                 more += [[(house, state, None)] for house in range(len(rows)) for state in kept[house]]
+                left = [own_left(rows, kept, fallen, house, written) for house in range(len(rows))]
+                more += [[(house, left[house][-1], None)] + row for house in range(len(rows))]
+                for letter in heard_letters(rows):
+                    heard = heard_by(rows, letter)
+                    for house in range(len(rows)):
+                        last = (house, max(state for state in left[house] if state <= max(heard[1], 0)), letter)
+                        more += [[last], [(fallen[0], left[fallen[0]][-1], None), last], row + [last]]
                 for value in variants(row) + more + junk() + [row + row]:
                     told = is_undoings(picture, kept, fallen, event, value, written)
                     self.assertIs(told, judge_undoings(rows, kept, fallen, event, value, written), value)
                     seen.add(told)
+                for value in more:
+                    last = (value[-1][0], 10 ** 6)
+                    for other in [told for told in all_events(rows) if told < last][-1:]:
+                        self.assertIs(is_undoings(picture, kept, fallen, other, value, written),
+                                      judge_undoings(rows, kept, fallen, other, value, written), value)
         self.assertEqual(seen, {True, False})
 
     def test_worst(self):

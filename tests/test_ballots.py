@@ -164,6 +164,13 @@ class TestRuns(Case):
         self.assertEqual(ballots(council, run)[9], ("y", (5,), {5: (0, "")}, (5,), ""))
         self.assertEqual([can_be_done(council, run, ("accept", number, 5)) for number in (0, 9)], [False, False])
 
+    def test_ballots_that_start_the_other_way_round(self):
+        council = Council(Tree.of(1, 0, 1), Tree.of(1, 0, 1))
+        run = whole(5, "z", (0,), (0,)) + whole(2, "a", (1,), (1,))
+        self.check(council, run)
+        self.assertEqual(chosen(council, run), [(2, "a"), (5, "z")])
+        self.assertEqual(list(ballots(council, run)), [2, 5])
+
     def test_replies_of_several_ballots(self):
         council = Council(Tree.of(3, 0, 1, 2), Tree.of(1, 0, 1, 2))
         run = whole(1, "a", (0, 1, 2), (0,))[:-1] + whole(2, "b", (0, 1, 2), (1,)) + [("start", 5, "c", (0, 1, 2))]

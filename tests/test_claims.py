@@ -297,6 +297,20 @@ class TestClaims(Case):
                 self.refuse(InvalidClaim, {"value": value}, function, claim=value)
             self.refuse(InvalidClaim, {"value": value}, is_paper, claim=value, value=None)
 
+    def test_any_part(self):
+        parts = all_parts()
+        for line in LINES:
+            told = parts[line[0]][-1]
+            for at, part in enumerate(told):
+                for value in junk() + variants(part):
+                    more = told[:at] + (value,) + told[at + 1:]
+                    for word in line:
+                        claim = (word, *more)
+                        if self.yes_or_no(is_claim, value=claim):
+                            self.assertIs(is_true(claim), (word == line[0]) is TRUTHS[line[0]](*more))
+                        else:
+                            self.refuse(InvalidClaim, {"value": claim}, is_true, claim=claim)
+
     def test_many_exchanges(self):
         rule = Rule(2, Tree(0), Tree(0))
         run = [("lose", 0)] * 80 + [("lose", 1)] * 60
@@ -312,6 +326,8 @@ class TestClaims(Case):
         claim = ("together", Picture([[("do", "a")]]), {0: [0, 1]}, spots)
         told = contrary(claim)
         self.assertEqual(told, ("barrier",) + claim[1:])
+        turned = ("together", Picture([[], []]), {1: (0,), 0: [0]}, ())
+        self.assertEqual((list(contrary(turned)[2]), contrary(turned)[2][1]), ([0, 1], (0,)))
         paper = paper_of(("meeting", Tree(0), Tree(0)))
         paper[(0,)].append(1)
         self.assertEqual(paper_of(("meeting", Tree(0), Tree(0))), {(0,): [0]})

@@ -382,7 +382,9 @@ class TestMany(Case):
         desks[2].do_all("read 1", "note 0 0")
         desks[3].do_all("note 1 0", "read 1", "lose 0", "undo")
         desks[4].do_all("lose 0", "note 0 1")
-        for one, other in itertools.product(range(5), repeat=2):
+        desks.append(Desk(RULE))
+        desks[5].do_all("lose 0", "note 0 1", "undo")
+        for one, other in itertools.product(range(6), repeat=2):
             same = one == other or {one, other} == {2, 3}
             self.assertIs(desks[one] == desks[other], same)
             self.assertIs(desks[one] != desks[other], not same)

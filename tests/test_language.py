@@ -150,6 +150,29 @@ class TestLanguage(unittest.TestCase):
             for word in WORDS:
                 self.assertIsNone(re.search(rf"\b{word}\b", code), (path, word))
 
+    def test_names_of_properties_and_methods(self):
+        properties, methods, attributes, kinds = set(), set(), set(), {}
+        for path, tree in trees():
+            for kind in [node for node in tree.body if isinstance(node, ast.ClassDef)]:
+                for node in [node for node in kind.body if isinstance(node, ast.FunctionDef)]:
+                    told = [name.id for name in node.decorator_list if isinstance(name, ast.Name)]
+                    (properties if "property" in told else methods).add(node.name)
+                    kinds.setdefault(node.name, []).append((path.name, kind.name, len(node.args.args)))
+            for node in ast.walk(tree):
+                if isinstance(node, ast.Attribute) and isinstance(node.ctx, ast.Store):
+                    attributes.add(node.attr)
+        self.assertFalse(properties & methods)
+        self.assertFalse(properties & attributes)
+        self.assertFalse(attributes & methods)
+        for name, found in kinds.items():
+            if not name.startswith("__"):
+                self.assertEqual(len({many for _, _, many in found}), 1, (name, found))
+
+    def test_no_changes_in_place(self):
+        for path, tree in trees():
+            for node in ast.walk(tree):
+                self.assertNotIsInstance(node, ast.AugAssign, path)
+
     def test_is(self):
         for path, tree in trees():
             for node in ast.walk(tree):

@@ -209,7 +209,7 @@ def some_pairs(many=80):
         for other in itertools.islice(itertools.permutations(run), 0, 40, 7):
             if type(walk_run(rule, other)) is Walk:
                 others.append(list(other))
-        found += [(rule, run, other) for other in others]
+        found += [(rule, run, other) for other in others] + [(rule, run[:-1], run)]
     return found
 
 
